@@ -852,6 +852,8 @@ func TestSameStoreSeesEachDifference(t *testing.T) {
 		"State":       func(t *impl.Store) { t.Engine.Fleet.Pods[1].State = impl.PodGoing },
 		"Gen":         func(t *impl.Store) { t.Engine.Fleet.Pods[1].Gen++ },
 		"Since":       func(t *impl.Store) { t.Engine.Fleet.Pods[0].Since++ },
+		"Next":        func(t *impl.Store) { t.Engine.Fleet.Next++ },
+		"a bad Next":  func(t *impl.Store) { t.Engine.Fleet.Next = 0 },
 		"a pod less":  func(t *impl.Store) { t.Engine.Fleet.Pods = t.Engine.Fleet.Pods[:1] },
 		"no pods":     func(t *impl.Store) { t.Engine.Fleet.Pods = nil },
 		"a pod more": func(t *impl.Store) {
@@ -873,6 +875,25 @@ func TestSameStoreSeesEachDifference(t *testing.T) {
 	}
 }
 
+// A Fleet is its pods and its Next, with pods and without, and where it is no Fleet too.
+func TestSameStoreSeesNext(t *testing.T) {
+	played, _ := impl.PlayStore(impl.DefaultSpec(), 1, []impl.Op{tickOp(1)})
+	fresh, _ := impl.NewStore(impl.DefaultSpec(), 1)
+	for _, st := range []impl.Store{fresh, played, {}} {
+		next := st.Engine.Fleet.Next
+		for _, x := range []int{next - 1, next + 1, 0, -next, top, top + 1, math.MinInt, math.MaxInt} {
+			other := storeCopy(st)
+			other.Engine.Fleet.Next = x
+			if got := impl.SameStore(st, other); got != (x == next) || got != impl.SameStore(other, st) {
+				t.Errorf("Next %d and %d: %v", next, x, got)
+			}
+			if !impl.SameStore(other, storeCopy(other)) {
+				t.Errorf("Next %d: is not the same as itself", x)
+			}
+		}
+	}
+}
+
 func TestSameStoreSeesNothingElse(t *testing.T) {
 	none := storeByHand(func(*impl.Store) {})
 	for name, change := range map[string]func(t *impl.Store){
@@ -887,7 +908,6 @@ func TestSameStoreSeesNothingElse(t *testing.T) {
 		"Tries":             func(t *impl.Store) { t.Engine.Tries = 2 },
 		"WaitTill":          func(t *impl.Store) { t.Engine.WaitTill = 0 },
 		"the engine's Spec": func(t *impl.Store) { t.Engine.Spec = impl.DefaultSpec() },
-		"Next":              func(t *impl.Store) { t.Engine.Fleet.Next = 10 },
 	} {
 		other := storeByHand(change)
 		if !impl.SameStore(none, other) || !impl.SameStore(other, none) {
