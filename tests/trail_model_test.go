@@ -320,6 +320,17 @@ func TestCeilingKeptByChance(t *testing.T) {
 	}
 }
 
+// wantGoroutines waits a while, as one that ends may still be counted.
+func wantGoroutines(t *testing.T, most int) {
+	t.Helper()
+	for wait := 0; runtime.NumGoroutine() > most; wait++ {
+		if wait == 1000 {
+			t.Fatalf("%d goroutines, %d ahead", runtime.NumGoroutine(), most)
+		}
+		time.Sleep(time.Millisecond)
+	}
+}
+
 // Many may ask at once of one and the same list, and no goroutine of a check is left behind.
 func TestChecksSideBySide(t *testing.T) {
 	g := degradedTape(t)
@@ -339,12 +350,7 @@ func TestChecksSideBySide(t *testing.T) {
 		})
 	}
 	running.Wait()
-	for wait := 0; runtime.NumGoroutine() > ahead; wait++ {
-		if wait == 1000 {
-			t.Fatalf("%d goroutines, %d ahead", runtime.NumGoroutine(), ahead)
-		}
-		time.Sleep(time.Millisecond)
-	}
+	wantGoroutines(t, ahead)
 }
 
 // No limit is named for events, and a long list is judged as a short one.
